@@ -78,6 +78,9 @@ func checkAnyText(t *testing.T, text string) {
 			t.Errorf("%q: Suits of %d noughts", text, count)
 		}
 	}
+	for budget := range 3 {
+		solve(t, m, api.Given, budget == 1, budget*budget*10)
+	}
 }
 
 func TestAnyText(t *testing.T) {

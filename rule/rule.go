@@ -1,6 +1,8 @@
 // Package rule has what a model says: its variables, and the constraints on their values.
 package rule
 
+import "slices"
+
 // Set of all that a model says. Constraints name variables by their places in Vars.
 type Set struct {
 	Vars        []Var
@@ -57,4 +59,28 @@ type Constraint struct {
 
 	Vars []int
 	Lits []Lit
+}
+
+// Variables gives all variables that stand in a constraint, each once.
+func (c *Constraint) Variables() []int {
+	var vars []int
+	switch c.Sort {
+	case When:
+		vars = append(vars, c.Truth)
+		fallthrough
+	case Lin:
+		for _, t := range c.Terms {
+			vars = append(vars, t.Var)
+		}
+	case At:
+		vars = append(vars, c.Place, c.Entry)
+	case Diff:
+		vars = append(vars, c.Vars...)
+	case Or:
+		for _, l := range c.Lits {
+			vars = append(vars, l.Var)
+		}
+	}
+	slices.Sort(vars)
+	return slices.Compact(vars)
 }

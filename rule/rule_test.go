@@ -1,6 +1,9 @@
 package rule
 
-import "testing"
+import (
+	"slices"
+	"testing"
+)
 
 func TestSuits(t *testing.T) {
 	vars := []Var{{"a", 0, 3}, {"b", 0, 3}}
@@ -31,5 +34,29 @@ func TestSuitsOfNoAssignment(t *testing.T) {
 		if set.Suits(values) {
 			t.Errorf("Suits of %v", values)
 		}
+	}
+}
+
+func TestVariables(t *testing.T) {
+	terms := []Term{{4, 2}, {1, -1}, {4, 3}}
+	for _, c := range []struct {
+		constraint Constraint
+		want       []int
+	}{
+		{Constraint{Sort: Lin, Terms: terms, Truth: 7}, []int{1, 4}},
+		{Constraint{Sort: When, Terms: terms, Truth: 7}, []int{1, 4, 7}},
+		{Constraint{Sort: When, Terms: terms, Truth: 1}, []int{1, 4}},
+		{Constraint{Sort: At, Place: 5, Entry: 2}, []int{2, 5}},
+		{Constraint{Sort: At, Place: 3, Entry: 3}, []int{3}},
+		{Constraint{Sort: Diff, Vars: []int{6, 2, 6, 1}}, []int{1, 2, 6}},
+		{Constraint{Sort: Or, Lits: []Lit{{3, 0}, {2, 1}, {3, 1}}}, []int{2, 3}},
+	} {
+		if got := c.constraint.Variables(); !slices.Equal(got, c.want) {
+			t.Errorf("%v has the variables %v, want %v", c.constraint, got, c.want)
+		}
+	}
+	diff := Constraint{Sort: Diff, Vars: []int{6, 2}}
+	if diff.Variables(); !slices.Equal(diff.Vars, []int{6, 2}) {
+		t.Errorf("Variables changes its constraint: %v", diff.Vars)
 	}
 }

@@ -7,7 +7,7 @@ func (s *Set) Suits(values []int) bool {
 		return false
 	}
 	for _, c := range s.Constraints {
-		if !c.suits(values) {
+		if !c.Suits(values) {
 			return false
 		}
 	}
@@ -26,7 +26,8 @@ func (s *Set) isAssignment(values []int) bool {
 	return true
 }
 
-func (c *Constraint) suits(values []int) bool {
+// Suits tells whether values within their bounds, one for each variable of the set, suit the constraint. It asks for no others than those of the constraint's variables.
+func (c *Constraint) Suits(values []int) bool {
 	truth := true
 	switch c.Sort {
 	case When:

@@ -1,0 +1,95 @@
+// Package search finds all that suits a set of rules: it chooses, draws conclusions, and goes back.
+package search
+
+import (
+	"slices"
+
+	"assay/api"
+	"assay/domain"
+	"assay/rule"
+)
+
+// search is a search under way. What it knows of a variable is at the variable's place in left, values and fixed.
+type search struct {
+	rules  *rule.Set
+	weak   bool
+	budget int
+
+	left   []domain.Domain
+	values []int // the one value left, if the variable is fixed
+	fixed  []bool
+	trail  []change
+
+	vars   [][]int // the variables of each constraint
+	users  [][]int // the constraints of each variable
+	marked []bool  // the constraints of which conclusions are still to be drawn
+
+	result api.Result
+}
+
+// Solve tells what suits, in the order of the first values, of these alike of the second ones, and so on. It counts no more nodes than the budget.
+func Solve(rules *rule.Set, weak bool, budget int) api.Result {
+	s := begin(rules, weak, budget)
+	if s.conclude() {
+		s.enter()
+	}
+	return s.result
+}
+
+// begin knows nothing but the bounds, so all constraints are marked.
+func begin(rules *rule.Set, weak bool, budget int) *search {
+	count := len(rules.Vars)
+	s := &search{
+		rules: rules, weak: weak, budget: budget,
+		left: make([]domain.Domain, count), values: make([]int, count), fixed: make([]bool, count),
+		vars: make([][]int, len(rules.Constraints)), users: make([][]int, count), marked: make([]bool, len(rules.Constraints)),
+	}
+	for i, v := range rules.Vars {
+		s.set(i, domain.Between(v.Low, v.High))
+	}
+	for c := range rules.Constraints {
+		s.marked[c] = true
+		s.vars[c] = rules.Constraints[c].Variables()
+		for _, v := range s.vars[c] {
+			s.users[v] = append(s.users[v], c)
+		}
+	}
+	return s
+}
+
+// enter counts a node, goes on from there, and tells whether the search may go on behind it.
+func (s *search) enter() bool {
+	if s.result.Nodes >= s.budget {
+		s.result.Ending = api.Budget
+		return false
+	}
+	s.result.Nodes++
+	variable := slices.Index(s.fixed, false)
+	if variable < 0 {
+		return s.tell()
+	}
+	return s.choose(variable)
+}
+
+// choose tries each value of a variable that has more than one. No variable is chosen twice on one way, so at most P nodes have the same number of choices, and there are no more than n P + 1 in all.
+func (s *search) choose(variable int) bool {
+	for value := range s.left[variable].All() {
+		start := len(s.trail)
+		s.put(variable, domain.Only(value))
+		if s.conclude() && !s.enter() {
+			return false
+		}
+		s.takeBack(start)
+	}
+	return true
+}
+
+// tell comes where all variables are fixed without a contradiction, so their values suit.
+func (s *search) tell() bool {
+	if len(s.result.Solutions) == api.MaxSolutions {
+		s.result.Ending = api.Solutions
+		return false
+	}
+	s.result.Solutions = append(s.result.Solutions, slices.Clone(s.values))
+	return true
+}
