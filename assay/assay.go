@@ -51,7 +51,7 @@ func (m *Model) Text() string { return m.plain }
 // Suits tells whether values suit (P4).
 func (m *Model) Suits(values []int) bool { return m.rules.Suits(values) }
 
-// Solve finds what suits (P5 to P7). All orders are gone alike: the variables as they were declared.
+// Solve finds what suits (P5 to P8).
 func (m *Model) Solve(order int, weak bool, budget int) api.Result {
-	return search.Solve(m.rules, weak, budget)
+	return search.Solve(m.rules, order, weak, budget)
 }

@@ -18,9 +18,14 @@ type drawn struct {
 	model       *assay.Model
 }
 
+// drawnList is the list l of every drawn model.
+var drawnList = []int{2, -1, 0, 2}
+
 type drawnConstraint struct {
+	sort  string // its keyword
 	text  string
-	vars  []int
+	vars  []int        // by their places; that of the truth is the last one
+	wants []int        // of or: the value that makes the lit at each place true
 	alone *assay.Model // the model with this constraint and no other
 }
 
@@ -28,7 +33,7 @@ func name(variable int) string { return string(rune('a' + variable)) }
 
 func draw(t *testing.T, random *rand.Rand) *drawn {
 	t.Helper()
-	d := &drawn{head: "list l = [2, -1, 0, 2];"}
+	d := &drawn{head: "list l = [" + joined(drawnList, strconv.Itoa) + "];"}
 	for v := range random.Intn(5) {
 		low, high := 0, 1
 		if v >= 2 || random.Intn(3) == 0 {
@@ -84,24 +89,33 @@ func (d *drawn) constraint(random *rand.Rand) drawnConstraint {
 	switch sort {
 	case 0:
 		two := []int{vars[random.Intn(len(vars))], vars[random.Intn(len(vars))]}
-		return drawnConstraint{text: " at l[" + name(two[0]) + "] = " + name(two[1]) + ";", vars: two}
+		return drawnConstraint{sort: "at", text: " at l[" + name(two[0]) + "] = " + name(two[1]) + ";", vars: two}
 	case 1:
 		all := some(random, vars, 3)
-		return drawnConstraint{text: " diff " + joined(all, func(v int) string { return name(v) }) + ";", vars: all}
+		return drawnConstraint{sort: "diff", text: " diff " + joined(all, func(v int) string { return name(v) }) + ";", vars: all}
 	case 4:
-		all := some(random, truths, 3)
-		return drawnConstraint{text: " or " + joined(all, func(v int) string { return []string{"", "!"}[random.Intn(2)] + name(v) }) + ";", vars: all}
+		return drawnOr(random, some(random, truths, 3))
 	case 5:
 		all, truth := some(random, vars, 3), truths[random.Intn(len(truths))]
-		return drawnConstraint{text: " when " + name(truth) + ":" + sum(random, all), vars: append(all, truth)}
+		return drawnConstraint{sort: "when", text: " when " + name(truth) + ":" + sum(random, all), vars: append(all, truth)}
 	}
 	all := some(random, vars, 4)
-	return drawnConstraint{text: " lin" + sum(random, all), vars: all}
+	return drawnConstraint{sort: "lin", text: " lin" + sum(random, all), vars: all}
 }
 
-func joined(vars []int, write func(v int) string) string {
-	pieces := make([]string, len(vars))
-	for i, v := range vars {
+func drawnOr(random *rand.Rand, vars []int) drawnConstraint {
+	c := drawnConstraint{sort: "or", vars: vars}
+	c.text = " or " + joined(vars, func(v int) string {
+		want := random.Intn(2)
+		c.wants = append(c.wants, want)
+		return []string{"!", ""}[want] + name(v)
+	}) + ";"
+	return c
+}
+
+func joined(numbers []int, write func(v int) string) string {
+	pieces := make([]string, len(numbers))
+	for i, v := range numbers {
 		pieces[i] = write(v)
 	}
 	return strings.Join(pieces, ", ")

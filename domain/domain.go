@@ -28,11 +28,34 @@ func Between(low, high int) Domain {
 }
 
 // Only gives the set of one value that is within MaxValue.
-func Only(value int) Domain {
-	var d Domain
+func Only(value int) Domain { return Domain{}.With(value) }
+
+// bit tells where the bit of a value is.
+func bit(value int) (word int, mask uint64) {
 	place := value + api.MaxValue
-	d[place/wordBits] = 1 << (place % wordBits)
+	return place / wordBits, 1 << (place % wordBits)
+}
+
+// With gives the set with one more value that is within MaxValue.
+func (d Domain) With(value int) Domain {
+	word, mask := bit(value)
+	d[word] |= mask
 	return d
+}
+
+// Has tells whether a value that is within MaxValue is in the set.
+func (d Domain) Has(value int) bool {
+	word, mask := bit(value)
+	return d[word]&mask != 0
+}
+
+// Count tells how many values there are.
+func (d Domain) Count() int {
+	count := 0
+	for _, word := range d {
+		count += bits.OnesCount64(word)
+	}
+	return count
 }
 
 // And gives the values that both sets have.

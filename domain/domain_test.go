@@ -45,6 +45,41 @@ func TestOne(t *testing.T) {
 	}
 }
 
+func TestWithAndHas(t *testing.T) {
+	var d Domain
+	var values []int
+	for v := -api.MaxValue; v <= api.MaxValue; v += 37 {
+		if d.Has(v) {
+			t.Errorf("%d is there ahead of its time", v)
+		}
+		was := d
+		d = d.With(v)
+		if !d.Has(v) || was.Has(v) || d.With(v) != d || d.Without(Only(v)) != was {
+			t.Errorf("With(%d) makes %v of %v", v, slices.Collect(d.All()), slices.Collect(was.All()))
+		}
+		values = append(values, v)
+	}
+	if !slices.Equal(slices.Collect(d.All()), values) {
+		t.Errorf("the set has %v, want %v", slices.Collect(d.All()), values)
+	}
+	for _, v := range []int{-1000, -937, -936, 0, 999, 1000} {
+		if all := Between(-1000, 1000); !all.Has(v) || all.Without(Only(v)).Has(v) {
+			t.Errorf("Has(%d) is wrong", v)
+		}
+	}
+}
+
+func TestCount(t *testing.T) {
+	for _, c := range []struct {
+		set  Domain
+		want int
+	}{{Domain{}, 0}, {Only(-1000), 1}, {Only(1000), 1}, {Between(-1000, 1000), 2001}, {Between(-70, 70), 141}, {Only(-1000).With(1000).With(3), 3}} {
+		if got := c.set.Count(); got != c.want {
+			t.Errorf("%v are %d values, want %d", slices.Collect(c.set.All()), got, c.want)
+		}
+	}
+}
+
 func TestAndWithout(t *testing.T) {
 	first, second := Between(-500, 300), Between(-20, 700)
 	if first.And(second) != Between(-20, 300) || second.And(first) != Between(-20, 300) {

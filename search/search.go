@@ -12,6 +12,7 @@ import (
 // search is a search under way. What it knows of a variable is at the variable's place in left, values and fixed.
 type search struct {
 	rules  *rule.Set
+	order  int
 	weak   bool
 	budget int
 
@@ -27,9 +28,9 @@ type search struct {
 	result api.Result
 }
 
-// Solve tells what suits, in the order of the first values, of these alike of the second ones, and so on. It counts no more nodes than the budget.
-func Solve(rules *rule.Set, weak bool, budget int) api.Result {
-	s := begin(rules, weak, budget)
+// Solve tells what suits. It counts no more nodes than the budget.
+func Solve(rules *rule.Set, order int, weak bool, budget int) api.Result {
+	s := begin(rules, order, weak, budget)
 	if s.conclude() {
 		s.enter()
 	}
@@ -37,10 +38,10 @@ func Solve(rules *rule.Set, weak bool, budget int) api.Result {
 }
 
 // begin knows nothing but the bounds, so all constraints are marked.
-func begin(rules *rule.Set, weak bool, budget int) *search {
+func begin(rules *rule.Set, order int, weak bool, budget int) *search {
 	count := len(rules.Vars)
 	s := &search{
-		rules: rules, weak: weak, budget: budget,
+		rules: rules, order: order, weak: weak, budget: budget,
 		left: make([]domain.Domain, count), values: make([]int, count), fixed: make([]bool, count),
 		vars: make([][]int, len(rules.Constraints)), users: make([][]int, count), marked: make([]bool, len(rules.Constraints)),
 	}
@@ -64,11 +65,33 @@ func (s *search) enter() bool {
 		return false
 	}
 	s.result.Nodes++
-	variable := slices.Index(s.fixed, false)
+	variable := s.next()
 	if variable < 0 {
 		return s.tell()
 	}
 	return s.choose(variable)
+}
+
+// next tells which variable to choose a value of, or -1 if all are fixed. By every order but Narrow it is the first one that is open, which brings the solutions into the order of their values.
+func (s *search) next() int {
+	if s.order == api.Narrow {
+		return s.narrowest()
+	}
+	return slices.Index(s.fixed, false)
+}
+
+// narrowest tells the open variable with the fewest values left, the first of those alike.
+func (s *search) narrowest() int {
+	variable, fewest := -1, 0
+	for v, left := range s.left {
+		if s.fixed[v] {
+			continue
+		}
+		if count := left.Count(); variable < 0 || count < fewest {
+			variable, fewest = v, count
+		}
+	}
+	return variable
 }
 
 // choose tries each value of a variable that has more than one. No variable is chosen twice on one way, so at most P nodes have the same number of choices, and there are no more than n P + 1 in all.

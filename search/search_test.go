@@ -4,6 +4,7 @@ import (
 	"slices"
 	"testing"
 
+	"assay/api"
 	"assay/domain"
 	"assay/rule"
 )
@@ -62,7 +63,7 @@ func rules() *rule.Set {
 }
 
 func TestTrailTakesBackWhatWasConcluded(t *testing.T) {
-	s := begin(rules(), false, 9)
+	s := begin(rules(), api.Given, false, 9)
 	s.conclude()
 	first := slices.Clone(s.left)
 	s.put(2, domain.Only(1))
@@ -85,7 +86,7 @@ func TestTrailTakesBackWhatWasConcluded(t *testing.T) {
 }
 
 func TestTrailHasWhatChangesAlone(t *testing.T) {
-	s := begin(rules(), false, 9)
+	s := begin(rules(), api.Given, false, 9)
 	if !s.keep(0, domain.Between(0, 3)) || len(s.trail) != 0 {
 		t.Error("what is known already is put on the trail")
 	}
@@ -98,7 +99,7 @@ func TestTrailHasWhatChangesAlone(t *testing.T) {
 }
 
 func TestMarksEndWithAContradiction(t *testing.T) {
-	s := begin(rules(), false, 9)
+	s := begin(rules(), api.Given, false, 9)
 	s.conclude()
 	s.put(0, domain.Only(1))
 	s.put(2, domain.Only(1))
@@ -111,7 +112,7 @@ func TestMarksEndWithAContradiction(t *testing.T) {
 }
 
 func TestWeakConcludesWhereAllIsFixedAlone(t *testing.T) {
-	s := begin(rules(), true, 9)
+	s := begin(rules(), api.Given, true, 9)
 	s.put(0, domain.Only(1))
 	if !s.conclude() || s.left[1] != domain.Between(0, 3) {
 		t.Errorf("b has %v left", slices.Collect(s.left[1].All()))
@@ -125,7 +126,7 @@ func TestWeakConcludesWhereAllIsFixedAlone(t *testing.T) {
 func TestConclusionsSaveNodes(t *testing.T) {
 	want := [][]int{{2, 3, 0}, {3, 2, 1}}
 	for weak, nodes := range map[bool]int{false: 5, true: 9} {
-		got := Solve(rules(), weak, 1000)
+		got := Solve(rules(), api.Given, weak, 1000)
 		if !slices.EqualFunc(got.Solutions, want, slices.Equal) || got.Nodes != nodes {
 			t.Errorf("weak %v: %v, %d nodes, want %v, %d nodes", weak, got.Solutions, got.Nodes, want, nodes)
 		}
